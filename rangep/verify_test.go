@@ -269,23 +269,23 @@ func TestVerifyCode(t *testing.T) {
 	}
 }
 
-// What stands where the commitment is Zero might pass for it, since what is not right often is taken for Zero.
+// What is no point might pass for one that is easily taken in its place.
 func TestVerifyCommitment(t *testing.T) {
 	code := curve.Encode(commit.Asset(peg, firstK))
 	other := func(first byte, x []byte) []byte { return append([]byte{first}, x...) }
 	least := make([]byte, 32)
 	over := append(slices.Repeat([]byte{255}, 27), 254, 255, 255, 252, 0x2f) // p
-	for i := range 3 {
+	for i := range 6 {
 		l := []api.Secret{{At: 1, X: one}, {At: 2, X: firstK}, {At: 3, X: lessOne}, {At: 1, X: secondK}}
-		l[i] = api.Secret{}
+		l[i/2] = api.Secret{X: scalar.Of(uint64(i % 2))} // of Zero, or of Base
 		r := of(commit.Asset(gold, secondK), l...)
 		p := r.made(t)
-		r.verified(t, "a part that is Zero", p)
+		r.verified(t, "a part that is Zero, or Base", p)
 		for _, c := range [][]byte{
 			other(1, least), other(2, least), other(3, least), other(4, least), other(255, least), append(slices.Clone(least), 1), other(0, code[1:]), other(1, code[1:]), other(4, code[1:]), other(7, code[1:]),
 			other(2, over), other(3, over), other(2, slices.Repeat([]byte{255}, 32)), slices.Repeat([]byte{255}, 33), code[:],
 		} {
-			denied(t, "what is no code of Zero", r.amount, r.asset, slices.Replace(slices.Clone(p), 1+33*i, 34+33*i, c...))
+			denied(t, "what is no code of Zero, nor of Base", r.amount, r.asset, slices.Replace(slices.Clone(p), 1+33*(i/2), 34+33*(i/2), c...))
 		}
 	}
 }
